@@ -1,0 +1,1 @@
+"""Beams and stems: beamstem.beams holds the program."""
